@@ -536,9 +536,12 @@ func TestConeOfTurnsChecksEachTurn(t *testing.T) {
 			}
 		}
 	}
-	checkConeOfTurns(t, []int{1<<62 + 2, 4}, "")
-	checkConeOfTurns(t, []int{1<<61 + 1, 8}, "")
-	checkConeOfTurns(t, []int{1<<60 + 1, 16}, "")
+	for last := 3; last <= 30; last++ {
+		// The product with the last turn is 2 to the power 64, and at most twice the last turn more.
+		for great := range 2 {
+			checkConeOfTurns(t, []int{int(math.MaxUint64/uint64(last)) + 1 + great, last}, "")
+		}
+	}
 }
 
 // fraction is the continued fraction of the turns with differences, as its two numbers.
